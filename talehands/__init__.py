@@ -1,0 +1,1 @@
+"""Talehands: books of stories, told to hands that see only their own part."""
