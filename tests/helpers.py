@@ -51,8 +51,11 @@ def kept(test, things, ask):
     return told
 
 
-def chance_row(chance, most, hands="abc", words="xy", finished=False):
-    """A row that can go, of at most so many deeds; a story where it must be finished."""
+def chance_row(chance, most, hands, words, finished, taking):
+    """A row that can go, of at most so many deeds; a story where it must be finished.
+
+    The less it is for taking, of 1, the more letters come to be under way.
+    """
     lines = {}
     row = []
     while len(row) < most:
@@ -61,7 +64,7 @@ def chance_row(chance, most, hands="abc", words="xy", finished=False):
         must_take = finished and most - len(row) < under + 2
         if must_take and not waiting:
             break
-        if waiting and (must_take or chance.random() < 0.45):
+        if waiting and (must_take or chance.random() < taking):
             giver, taker = chance.choice(waiting)
             row.append(("take", giver, taker, lines[giver, taker].pop(0)))
         else:
@@ -72,10 +75,10 @@ def chance_row(chance, most, hands="abc", words="xy", finished=False):
     return tuple(row)
 
 
-def chance_rows(seed, many, most, hands="abc", words="xy", finished=False):
+def chance_rows(seed, many, most, hands="abc", words="xy", finished=False, taking=0.45):
     """So many rows that can go, always the same ones for a seed."""
     chance = random.Random(seed)
-    return [chance_row(chance, chance.randint(0, most), hands, words, finished) for turn in range(many)]
+    return [chance_row(chance, chance.randint(0, most), hands, words, finished, taking) for turn in range(many)]
 
 
 def lines_of(row):
@@ -90,3 +93,51 @@ def lines_of(row):
         else:
             return None
     return {pair: words for pair, words in lines.items() if words}
+
+
+def seen_by(row, hand):
+    """The hand's own deeds of the row."""
+    return tuple(deed for deed in row if (deed[1] if deed[0] == "send" else deed[2]) == hand)
+
+
+def all_seen(row):
+    """By hand the own deeds of all hands that have any."""
+    hands = {name for deed in row for name in deed[1:3]}
+    return {hand: seen_by(row, hand) for hand in hands if seen_by(row, hand)}
+
+
+def next_deeds(begun, row):
+    """The deeds of the row that can be done next behind the begun one, whose views are beginnings of the row's."""
+    found = []
+    for hand, seen in all_seen(row).items():
+        many = len(seen_by(begun, hand))
+        if many < len(seen) and lines_of(begun + (seen[many],)) is not None:
+            found.append(seen[many])
+    return sorted(found)
+
+
+def alike_rows(row, begun=()):
+    """All rows alike to the row that begin with the begun one, rising, gone through one by one."""
+    if len(begun) == len(row):
+        return [begun]
+    return [one for deed in next_deeds(begun, row) for one in alike_rows(row, begun + (deed,))]
+
+
+def shuffled(chance, row):
+    """Some row alike to the row."""
+    begun = ()
+    while len(begun) < len(row):
+        begun += (chance.choice(next_deeds(begun, row)),)
+    return begun
+
+
+def exchanged(row, place):
+    """The row with the deeds at the place and the next one exchanged."""
+    return row[:place] + (row[place + 1], row[place]) + row[place + 2:]
+
+
+def may_change(row, place):
+    """Whether these neighbours are deeds of unlike hands and the row can go with them exchanged."""
+    first, second = row[place], row[place + 1]
+    unlike = all_seen((first,)).keys() != all_seen((second,)).keys()
+    return unlike and lines_of(exchanged(row, place)) is not None
