@@ -4,6 +4,7 @@ Nothing here uses the program, so that it can be held against it.
 """
 
 import copy
+import itertools
 import random
 
 
@@ -141,3 +142,90 @@ def may_change(row, place):
     first, second = row[place], row[place + 1]
     unlike = all_seen((first,)).keys() != all_seen((second,)).keys()
     return unlike and lines_of(exchanged(row, place)) is not None
+
+
+def row_of(words):
+    """The row in which a sends b these words, one a letter."""
+    return tuple(sent("a b " + word) for word in words)
+
+
+def either(texts):
+    """The plot that has for each text the row of its letters as words."""
+    return ("or", tuple(("row", row_of(text)) for text in texts))
+
+
+def names(many):
+    """So many texts of two letters each."""
+    return ["".join(pair) for pair in itertools.product("abcdefghijklmnopqrstuvwxyz", repeat=2)][:many]
+
+
+def all_plot_rows(plot):
+    """The plot's rows as the document tells them, all made first."""
+    if plot[0] == "row":
+        found = [plot[1]]
+    elif plot[0] == "or":
+        found = [row for part in plot[1] for row in all_plot_rows(part)]
+    elif plot[0] == "then":
+        found = [sum(rows, ()) for rows in itertools.product(*[all_plot_rows(part) for part in plot[1]])]
+    else:
+        once = all_plot_rows(plot[1])
+        found = [sum(rows, ()) for times in range(plot[2], plot[3] + 1)
+                 for rows in itertools.product(once, repeat=times)]
+    return list(dict.fromkeys(found))
+
+
+def has_too_many(plot):
+    """Whether the plot or a part of it has more than 200 rows or a row of more than 24 deeds."""
+    rows = all_plot_rows(plot)
+    parts = {"row": (), "again": plot[1:2]}.get(plot[0], plot[1])
+    return len(rows) > 200 or max(map(len, rows)) > 24 or any(has_too_many(part) for part in parts)
+
+
+def chance_plot(chance, deep):
+    """Some plot, at most so deep."""
+    word = chance.choice(["row", "then", "or", "again"]) if deep else "row"
+    if word == "row":
+        return ("row", row_of(chance.choices("ab", k=chance.randint(0, 2))))
+    if word == "again":
+        least = chance.randint(0, 2)
+        return ("again", chance_plot(chance, deep - 1), least, chance.randint(least, 3))
+    return (word, tuple(chance_plot(chance, deep - 1) for turn in range(chance.randint(1, 3))))
+
+
+def least_alike(row):
+    """The least of all rows alike to the row: of all deeds that can be done next always the least."""
+    begun = ()
+    while len(begun) < len(row):
+        begun += (next_deeds(begun, row)[0],)
+    return begun
+
+
+def book_from(rows):
+    """The book of the stories: the least rows alike to them, rising, each once."""
+    return tuple(sorted({least_alike(row) for row in rows}))
+
+
+def hands_in(book):
+    """The hands of the book's stories, rising."""
+    return tuple(sorted({hand for story in book for hand in all_seen(story)}))
+
+
+def views_in(book, hand):
+    """The hand's views of the book's stories, rising, each once."""
+    return tuple(sorted({seen_by(story, hand) for story in book}))
+
+
+def chance_books(seed, many, stories, most, hands="abc", words="xy", taking=0.45):
+    """So many books of at most so many stories of at most so many deeds, always the same ones for a seed."""
+    chance = random.Random(seed)
+    books = []
+    for turn in range(many):
+        told = chance.randint(1, stories)
+        rows = [chance_row(chance, chance.randint(0, most), hands, words, True, taking) for turn in range(told)]
+        books.append(book_from(rows))
+    return books
+
+
+def letters(giver, taker, words):
+    """The story in which one hand sends the other these words, each taken at once."""
+    return tuple((kind, giver, taker, word) for word in words for kind in ("send", "take"))

@@ -1,67 +1,19 @@
-import itertools
 import random
 import unittest
 
 from talehands.errors import NoPlot, TooMany
 from talehands.plots import is_plot, plot_rows
-from tests.helpers import Odd, any_things, kept, sent, taken
+from tests.helpers import (Odd, all_plot_rows, any_things, chance_plot, either, has_too_many, kept, names, sent,
+                           taken)
 
 S, T = sent("a b w"), taken("a b w")
 A, B, C, D = [("row", (sent("a b " + word),)) for word in "abcd"]
 NONE = ("row", ())
 
 
-def row_of(words):
-    """The row in which a sends b these words, one a letter."""
-    return tuple(sent("a b " + word) for word in words)
-
-
-def either(texts):
-    """The plot that has for each text the row of its letters as words."""
-    return ("or", tuple(("row", row_of(text)) for text in texts))
-
-
 def told(plot):
     """The rows of a plot of such rows, as texts."""
     return ["".join(deed[3] for deed in row) for row in plot_rows(plot)]
-
-
-def names(many):
-    """So many texts of two letters each."""
-    return ["".join(pair) for pair in itertools.product("abcdefghijklmnopqrstuvwxyz", repeat=2)][:many]
-
-
-def all_rows(plot):
-    """The plot's rows as the document tells them, all made first."""
-    if plot[0] == "row":
-        found = [plot[1]]
-    elif plot[0] == "or":
-        found = [row for part in plot[1] for row in all_rows(part)]
-    elif plot[0] == "then":
-        found = [sum(rows, ()) for rows in itertools.product(*[all_rows(part) for part in plot[1]])]
-    else:
-        once = all_rows(plot[1])
-        found = [sum(rows, ()) for times in range(plot[2], plot[3] + 1)
-                 for rows in itertools.product(once, repeat=times)]
-    return list(dict.fromkeys(found))
-
-
-def has_too_many(plot):
-    """Whether the plot or a part of it has more than 200 rows or a row of more than 24 deeds."""
-    rows = all_rows(plot)
-    parts = {"row": (), "again": plot[1:2]}.get(plot[0], plot[1])
-    return len(rows) > 200 or max(map(len, rows)) > 24 or any(has_too_many(part) for part in parts)
-
-
-def chance_plot(chance, deep):
-    """Some plot, at most so deep."""
-    word = chance.choice(["row", "then", "or", "again"]) if deep else "row"
-    if word == "row":
-        return ("row", row_of(chance.choices("ab", k=chance.randint(0, 2))))
-    if word == "again":
-        least = chance.randint(0, 2)
-        return ("again", chance_plot(chance, deep - 1), least, chance.randint(least, 3))
-    return (word, tuple(chance_plot(chance, deep - 1) for turn in range(chance.randint(1, 3))))
 
 
 class IsPlot(unittest.TestCase):
@@ -190,7 +142,7 @@ class Rows(unittest.TestCase):
                 with self.assertRaises(TooMany):
                     plot_rows(plot)
             else:
-                self.assertEqual(plot_rows(plot), all_rows(plot))
+                self.assertEqual(plot_rows(plot), all_plot_rows(plot))
         self.assertGreater(min(seen.values()), 5)
 
     def test_a_told_list_is_the_askers_own(self):
