@@ -4,8 +4,10 @@ Nothing here uses the program, so that it can be held against it.
 """
 
 import copy
+import functools
 import itertools
 import random
+import re
 
 
 def sent(text):
@@ -200,6 +202,20 @@ def least_alike(row):
     return begun
 
 
+def row_from(text):
+    """The row of a text that is right: a part is X!Y:W, Y?X:W or X>Y:W, - is for none."""
+    row = ()
+    for hand, sign, other, word in re.findall("([a-z]+)([!?>])([a-z]+):([a-z]+)", text):
+        row += {"!": (("send", hand, other, word),), "?": (("take", other, hand, word),),
+                ">": (("send", hand, other, word), ("take", hand, other, word))}[sign]
+    return row
+
+
+def told_book(*texts):
+    """The book of the stories with these texts."""
+    return book_from(map(row_from, texts))
+
+
 def book_from(rows):
     """The book of the stories: the least rows alike to them, rising, each once."""
     return tuple(sorted({least_alike(row) for row in rows}))
@@ -229,3 +245,141 @@ def chance_books(seed, many, stories, most, hands="abc", words="xy", taking=0.45
 def letters(giver, taker, words):
     """The story in which one hand sends the other these words, each taken at once."""
     return tuple((kind, giver, taker, word) for word in words for kind in ("send", "take"))
+
+
+def most_under_way(row):
+    """The most letters of one X and Y under way behind a deed of the row."""
+    many = [len(words) for at in range(len(row)) for words in lines_of(row[:at + 1]).values()]
+    return max(many, default=0)
+
+
+def keeps_to(row, rooms):
+    """Whether the row keeps to the rooms, None for as many as may be."""
+    return rooms is None or most_under_way(row) <= rooms
+
+
+def begins(row, other):
+    """Whether each hand's view of the row is a beginning of its view of the other."""
+    its = all_seen(other)
+    return all(its.get(hand, ())[:len(seen)] == seen for hand, seen in all_seen(row).items())
+
+
+def standing_behind(book, run):
+    """The views of the run, one for each hand of the book, in order."""
+    return tuple(seen_by(run, hand) for hand in hands_in(book))
+
+
+@functools.lru_cache(maxsize=None)
+def all_runs(book, rooms):
+    """All runs of the book within the rooms, gone through one by one, those of fewer deeds ahead."""
+    deeds = sorted({deed for story in book for deed in story})
+    views = {hand: views_in(book, hand) for hand in hands_in(book)}
+    runs = [()]
+    for run in runs:
+        for row in [run + (deed,) for deed in deeds]:
+            lines = lines_of(row)
+            if lines is None or rooms is not None and max(map(len, lines.values()), default=0) > rooms:
+                continue
+            seen = all_seen(row)
+            if all(any(view[:len(seen[hand])] == seen[hand] for view in views[hand]) for hand in seen):
+                runs.append(row)
+    return tuple(runs)
+
+
+@functools.lru_cache(maxsize=None)
+def all_standings(book, rooms):
+    """All standings reached within the rooms, rising."""
+    return tuple(sorted({standing_behind(book, run) for run in all_runs(book, rooms)}))
+
+
+def deeds_on(book, rooms, standing):
+    """The deeds by which the standing becomes a standing again, of all deeds of the book, rising."""
+    hands = hands_in(book)
+    found = []
+    for deed in sorted({deed for story in book for deed in story}):
+        own = deed[1] if deed[0] == "send" else deed[2]
+        behind = tuple(seen + (deed,) if hand == own else seen for hand, seen in zip(hands, standing))
+        if behind in all_standings(book, rooms):
+            found.append(deed)
+    return tuple(found)
+
+
+def is_whole_behind(book, run):
+    """Whether the standing behind the run is whole."""
+    seen = zip(hands_in(book), standing_behind(book, run))
+    return lines_of(run) == {} and all(view in views_in(book, hand) for hand, view in seen)
+
+
+@functools.lru_cache(maxsize=None)
+def whole_runs(book, rooms):
+    """By the least row of each whole standing reached within the rooms one run to it."""
+    return {least_alike(run): run for run in all_runs(book, rooms) if is_whole_behind(book, run)}
+
+
+@functools.lru_cache(maxsize=None)
+def small_books():
+    """Books of which all runs can be gone through one by one."""
+    books = chance_books(100, 40, 3, 6) + chance_books(101, 20, 4, 4, "abc", "w") + chance_books(102, 20, 2, 8, "ab")
+    books += chance_books(103, 20, 3, 4, "abcd", "w", 0.2) + chance_books(104, 40, 3, 8, "ab", "w", 0.2)
+    chance = random.Random(105)
+    parts = [letters(*pair, word) for pair in ("ab", "cd", "ba", "bc") for word in "xy"]
+    for turn in range(50):
+        rows = [sum(chance.sample(parts, chance.randint(0, 3)), ()) for turn in range(chance.randint(2, 4))]
+        books.append(book_from(rows))
+    pairs = [letters("a", "b", first) + letters("c", "d", second) for first in "xy" for second in "xy"]
+    crossing = (sent("a b w"), sent("b a w")) * 2 + (taken("a b w"), taken("b a w")) * 2
+    books += [book_from(rows) for rows in ([()], pairs[:1], pairs[1:3], pairs[1:], pairs, [crossing], [crossing, ()])]
+    return tuple(dict.fromkeys(books + [sound_in_one_room(), closed_in_one_room()]))
+
+
+def sound_in_one_room():
+    """A book that is sound within rooms of 1 and strays within others.
+
+    In one story b takes x, then y, in the other one it sends s first and takes x only when a has taken s. With
+    one room a can't send y before x is taken.
+    """
+    asked = (sent("a b x"),) + letters("b", "a", "s") + letters("a", "c", "k") + letters("c", "b", "k")
+    return book_from([letters("a", "b", "xy"), asked + (taken("a b x"),)])
+
+
+def closed_in_one_room():
+    """A book that is closed within rooms of 1 and has an unasked story within others.
+
+    In each story one hand sends both its letters ahead; where both do, two rooms are needed.
+    """
+    first, second = letters("a", "b", "pp"), letters("b", "a", "qq")
+    return book_from([first + second, second + first])
+
+
+def standings_book(many):
+    """A book of one pair of hands that reaches just so many standings, from 1 on.
+
+    A story of k letters from the one to the other reaches (k + 1) * (k + 2) / 2 standings, and stories
+    whose first words are unlike share the first standing alone.
+    """
+    stories = []
+    left = many - 1
+    for name in names(40):
+        for long in range(16, 0, -1):
+            more = (long + 1) * (long + 2) // 2 - 1
+            # Of 1 and of 3 left no stories can be made.
+            if more <= left and left - more not in (1, 3):
+                stories.append(letters("a", "b", [name] + ["w"] * (long - 1)))
+                left -= more
+                break
+    assert left == 0
+    return book_from(stories or [()])
+
+
+@functools.lru_cache(maxsize=None)
+def endless_book():
+    """A book that reaches millions of standings: two pairs of hands that have nothing to do with one another."""
+    return book_from([letters("a", "b", [name] + ["w"] * 7) + letters("c", "d", [name] + ["w"] * 7)
+                      for name in names(40)])
+
+
+def wrong_rooms():
+    """Things of any kind that are no rooms."""
+    things = [thing for thing in any_things() if thing is not None]
+    return things + [0, -1, -40, 41, 42, 100, 10 ** 9, -10 ** 5000, 10 ** 5000, True, False, "1", "", "-", b"1", [1], (),
+                     (1,), {1: 1}, {1}]

@@ -3,15 +3,10 @@ import random
 import unittest
 
 from talehands.beginnings import is_beginning, rest
-from tests.helpers import all_seen, alike_rows, chance_rows, kept, lines_of, next_deeds, sent, shuffled, taken
+from tests.helpers import (all_seen, alike_rows, begins, chance_rows, kept, lines_of, next_deeds, sent, shuffled,
+                           taken)
 
 S, T = sent("a b w"), taken("a b w")
-
-
-def begins(row, other):
-    """Whether each hand's view of the row is a beginning of its view of the other."""
-    its = all_seen(other)
-    return all(its.get(hand, ())[:len(seen)] == seen for hand, seen in all_seen(row).items())
 
 
 class Beginnings(unittest.TestCase):

@@ -1,13 +1,7 @@
 import unittest
 
-from talehands.books import book_of
 from talehands.machines import book_views, machine
-from talehands.rowtexts import read_row
-from tests.helpers import chance_books, hands_in, kept, letters, names, sent, taken, views_in
-
-
-def book(*texts):
-    return book_of(tuple(read_row(text) for text in texts))
+from tests.helpers import book_from, chance_books, hands_in, kept, letters, names, sent, taken, told_book, views_in
 
 
 def rows_from(states, number):
@@ -30,15 +24,15 @@ def come_to(states):
 class BookViews(unittest.TestCase):
 
     def test_rising_each_once(self):
-        one = book("a>b:y", "a>b:x", "a>b:x b>a:z", "-")
+        one = told_book("a>b:y", "a>b:x", "a>b:x b>a:z", "-")
         self.assertEqual(book_views(one, "a"), ((), (sent("a b x"),), (sent("a b x"), taken("b a z")), (sent("a b y"),)))
         self.assertEqual(book_views(one, "b"), ((), (taken("a b x"),), (taken("a b x"), sent("b a z")),
                                                 (taken("a b y"),)))
-        one = book("a>b:w a>c:x", "a>b:w a>c:y")
+        one = told_book("a>b:w a>c:x", "a>b:w a>c:y")
         self.assertEqual(book_views(one, "b"), ((taken("a b w"),),))
 
     def test_of_a_hand_that_the_book_has_not(self):
-        for one in (book("-"), book("a>b:w"), book("a>b:w", "-")):
+        for one in (told_book("-"), told_book("a>b:w"), told_book("a>b:w", "-")):
             self.assertEqual(book_views(one, "c"), ((),))
             self.assertEqual(book_views(one, "w"), ((),))
 
@@ -53,22 +47,22 @@ class BookViews(unittest.TestCase):
 class Machine(unittest.TestCase):
 
     def test_few(self):
-        self.assertEqual(machine(book("-"), "a"), ((True, ()),))
-        self.assertEqual(machine(book("a>b:w"), "a"), ((False, ((sent("a b w"), 1),)), (True, ())))
-        self.assertEqual(machine(book("a>b:w", "-"), "b"), ((True, ((taken("a b w"), 1),)), (True, ())))
-        self.assertEqual(machine(book("a>b:w a>b:w", "-"), "b"),
+        self.assertEqual(machine(told_book("-"), "a"), ((True, ()),))
+        self.assertEqual(machine(told_book("a>b:w"), "a"), ((False, ((sent("a b w"), 1),)), (True, ())))
+        self.assertEqual(machine(told_book("a>b:w", "-"), "b"), ((True, ((taken("a b w"), 1),)), (True, ())))
+        self.assertEqual(machine(told_book("a>b:w a>b:w", "-"), "b"),
                          ((True, ((taken("a b w"), 1),)), (False, ((taken("a b w"), 2),)), (True, ())))
 
     def test_states_that_let_the_same_come_are_one(self):
-        one = book("a>b:x a>b:z", "a>b:y a>b:z")
+        one = told_book("a>b:x a>b:z", "a>b:y a>b:z")
         self.assertEqual(machine(one, "a"), ((False, ((sent("a b x"), 1), (sent("a b y"), 1))),
                                              (False, ((sent("a b z"), 2),)), (True, ())))
-        one = book("a>b:x a>b:z", "a>b:y a>b:z", "a>b:y")
+        one = told_book("a>b:x a>b:z", "a>b:y a>b:z", "a>b:y")
         self.assertEqual(machine(one, "a"), ((False, ((sent("a b x"), 1), (sent("a b y"), 2))),
                                              (False, ((sent("a b z"), 3),)), (True, ((sent("a b z"), 3),)), (True, ())))
 
     def test_of_a_hand_that_the_book_has_not(self):
-        for one in (book("a>b:w"), book("a>b:w", "b>a:w")):
+        for one in (told_book("a>b:w"), told_book("a>b:w", "b>a:w")):
             self.assertEqual(machine(one, "c"), ((True, ()),))
 
     def test_made_by_chance(self):
@@ -79,8 +73,8 @@ class Machine(unittest.TestCase):
         self.assertGreater(shared, 20)
 
     def test_long(self):
-        self.hold(book_of(tuple(letters("a", "b", [name] + ["w"] * 15) for name in names(40))), "a")
-        self.hold(book_of(tuple(letters("a", "b", "w" * many) for many in range(17))), "b")
+        self.hold(book_from(letters("a", "b", [name] + ["w"] * 15) for name in names(40)), "a")
+        self.hold(book_from(letters("a", "b", "w" * many) for many in range(17)), "b")
 
     def hold(self, one, hand):
         """Hold the machine against the document; how many states were spared."""
@@ -108,7 +102,7 @@ class Machine(unittest.TestCase):
                 self.assertIs(type(step[1]), int)
 
     def test_what_is_handed_in_stays(self):
-        one = book("a>b:w", "b>a:w")
+        one = told_book("a>b:w", "b>a:w")
         told = kept(self, [one, "a"], machine)
         self.assertEqual(kept(self, [one, "a"], machine), told)
         self.assertEqual(kept(self, [one, "a"], book_views), book_views(one, "a"))

@@ -4,18 +4,13 @@ import unittest
 
 from talehands.errors import NoRooms, NoRow
 from talehands.rooms import keeps, least_rooms, run_within
-from tests.helpers import Odd, all_seen, alike_rows, any_things, chance_rows, kept, lines_of, sent, shuffled, taken
+from tests.helpers import (all_seen, alike_rows, chance_rows, kept, lines_of, most_under_way, sent, shuffled, taken,
+                           wrong_rooms)
 
 S, T = sent("a b w"), taken("a b w")
 # Both hands send two letters and take the other's only then.
 CROSSING = (sent("a b w"), sent("a b w"), sent("b a w"), sent("b a w"),
             taken("a b w"), taken("a b w"), taken("b a w"), taken("b a w"))
-
-
-def most_under_way(row):
-    """The most letters of one X and Y under way behind a deed of the row."""
-    many = [len(words) for at in range(len(row)) for words in lines_of(row[:at + 1]).values()]
-    return max(many, default=0)
 
 
 def must_come_ahead(story, rooms):
@@ -155,10 +150,7 @@ class Within(unittest.TestCase):
 class Refused(unittest.TestCase):
 
     def test_no_rooms(self):
-        wrong = [thing for thing in any_things() if thing is not None]
-        wrong += [0, -1, -40, 41, 42, 100, 10 ** 9, 10 ** 5000, -10 ** 5000, True, False, "1", "", "-", b"1", [], [1],
-                  (), (1,), {}, {1: 1}, {1}, Odd()]
-        for rooms in wrong:
+        for rooms in wrong_rooms():
             for row in ((), (S, T), CROSSING):
                 with self.assertRaises(NoRooms):
                     keeps(row, rooms)
