@@ -223,7 +223,7 @@ def book_from(rows):
 
 def hands_in(book):
     """The hands of the book's stories, rising."""
-    return tuple(sorted({hand for story in book for hand in all_seen(story)}))
+    return tuple(sorted({hand for story in book for deed in story for hand in deed[1:3]}))
 
 
 def views_in(book, hand):
@@ -383,3 +383,82 @@ def wrong_rooms():
     things = [thing for thing in any_things() if thing is not None]
     return things + [0, -1, -40, 41, 42, 100, 10 ** 9, -10 ** 5000, 10 ** 5000, True, False, "1", "", "-", b"1", [1], (),
                      (1,), {1: 1}, {1}]
+
+
+def must_come_ahead(story, rooms):
+    """All pairs of numbers of which the first must come ahead of the second, as the document lists them."""
+    found = set()
+    for first, second in itertools.combinations(range(len(story)), 2):
+        hands = [story[at][1] if story[at][0] == "send" else story[at][2] for at in (first, second)]
+        between = [story[at][1] if story[at][0] == "send" else story[at][2] for at in range(first + 1, second)]
+        if hands[0] == hands[1] and hands[0] not in between:
+            found.add((first, second))
+    for pair in {deed[1:3] for deed in story}:
+        sends = [at for at, deed in enumerate(story) if deed[:3] == ("send",) + pair]
+        takes = [at for at, deed in enumerate(story) if deed[:3] == ("take",) + pair]
+        for k in range(len(sends)):
+            found.add((sends[k], takes[k]))
+            if k + rooms < len(sends):
+                found.add((takes[k], sends[k + rooms]))
+    return found
+
+
+def named_otherwise(book, names):
+    """The book with its hands named as the pairs tell."""
+    by_hand = dict(names)
+    return book_from([tuple((kind, by_hand[giver], by_hand[taker], word) for kind, giver, taker, word in story)
+                      for story in book])
+
+
+def told_ahead(book, leader, hands):
+    """The book in each story of which the leader sends each of the hands the story's word, which it takes at once."""
+    return book_from([sum((letters(leader, hand, [word]) for hand in hands), ()) + story
+                      for word, story in zip(names(40), book)])
+
+
+def some_of(things):
+    """All choices of the things, none and all of them too, those of fewer ahead."""
+    return [some for many in range(len(things) + 1) for some in itertools.combinations(things, many)]
+
+
+@functools.lru_cache(maxsize=None)
+def walked(book, rooms=None, most=3000):
+    """By each standing reached within the rooms a run of the fewest deeds to it; None where they are more than most.
+
+    Unlike all_runs it goes through standings, not runs, so that it comes to an end for larger books.
+    """
+    views = {hand: views_in(book, hand) for hand in hands_in(book)}
+    found = {tuple(() for hand in views): ()}
+    waiting = list(found.items())
+    for standing, run in waiting:
+        for at, hand in enumerate(views):
+            seen = standing[at]
+            for deed in sorted({view[len(seen)] for view in views[hand] if view[:len(seen)] == seen != view}):
+                behind = standing[:at] + (seen + (deed,),) + standing[at + 1:]
+                if behind not in found and can_follow(run, deed, rooms):
+                    found[behind] = run + (deed,)
+                    waiting.append((behind, run + (deed,)))
+                    if len(found) > most:
+                        return None
+    return found
+
+
+def can_follow(run, deed, rooms):
+    """Whether the deed can be done behind the run, within the rooms."""
+    lines = lines_of(run + (deed,))
+    return lines is not None and (rooms is None or max(map(len, lines.values()), default=0) <= rooms)
+
+
+def is_exact_book(book):
+    """Whether each standing reached is a beginning of a story, and each whole one a story; None of too many."""
+    found = walked(book)
+    if found is None:
+        return None
+    told = [standing_behind(book, story) for story in book]
+    for standing, run in found.items():
+        if not any(all(its[:len(seen)] == seen for seen, its in zip(standing, story)) for story in told):
+            return False
+        ended = all(seen in its for seen, its in zip(standing, zip(*told)))
+        if ended and lines_of(run) == {} and standing not in told:
+            return False
+    return True

@@ -26,7 +26,7 @@ BARRED_NODES = (ast.With, ast.Match, ast.Global, ast.Nonlocal, ast.Yield, ast.Yi
                 ast.Await, ast.AsyncFor, ast.AsyncWith, ast.GeneratorExp, ast.NamedExpr, ast.Div, ast.Import)
 ITERATED = ["zip", "enumerate", "reversed", "range"]
 ITERATED_METHODS = ["items", "keys", "values"]
-ITERATES = ["list", "tuple", "dict", "sorted", "sum", "any", "all", "enumerate", "zip", "bytes", "min", "max", "set"]
+ITERATES = ["list", "tuple", "dict", "sorted", "sum", "any", "all", "enumerate", "zip", "bytes", "min", "max"]
 
 
 def faults(name, text, package):

@@ -1,34 +1,15 @@
-import itertools
 import random
 import unittest
 
 from talehands.errors import NoRooms, NoRow
 from talehands.rooms import keeps, least_rooms, run_within
-from tests.helpers import (all_seen, alike_rows, chance_rows, kept, lines_of, most_under_way, sent, shuffled, taken,
-                           wrong_rooms)
+from tests.helpers import (all_seen, alike_rows, chance_rows, kept, lines_of, most_under_way, must_come_ahead, sent,
+                           shuffled, taken, wrong_rooms)
 
 S, T = sent("a b w"), taken("a b w")
 # Both hands send two letters and take the other's only then.
 CROSSING = (sent("a b w"), sent("a b w"), sent("b a w"), sent("b a w"),
             taken("a b w"), taken("a b w"), taken("b a w"), taken("b a w"))
-
-
-def must_come_ahead(story, rooms):
-    """All pairs of numbers of which the first must come ahead of the second, as the document lists them."""
-    found = set()
-    for first, second in itertools.combinations(range(len(story)), 2):
-        hands = [story[at][1] if story[at][0] == "send" else story[at][2] for at in (first, second)]
-        between = [story[at][1] if story[at][0] == "send" else story[at][2] for at in range(first + 1, second)]
-        if hands[0] == hands[1] and hands[0] not in between:
-            found.add((first, second))
-    for pair in {deed[1:3] for deed in story}:
-        sends = [at for at, deed in enumerate(story) if deed[:3] == ("send",) + pair]
-        takes = [at for at, deed in enumerate(story) if deed[:3] == ("take",) + pair]
-        for k in range(len(sends)):
-            found.add((sends[k], takes[k]))
-            if k + rooms < len(sends):
-                found.add((takes[k], sends[k + rooms]))
-    return found
 
 
 class Keeps(unittest.TestCase):
