@@ -8,11 +8,14 @@ from talehands.words import is_whole
 MOST_ROOMS = 40
 
 
+def is_rooms(thing):
+    """Whether the thing is a whole number from 1 to 40, or None: as many as may be."""
+    return thing is None or is_whole(thing) and 1 <= thing <= MOST_ROOMS
+
+
 def check_rooms(rooms):
-    """Refuse with NoRooms what is no whole number from 1 to 40; None, as many as may be, is let."""
-    if rooms is None:
-        return
-    if not is_whole(rooms) or not 1 <= rooms <= MOST_ROOMS:
+    """Refuse with NoRooms what is no whole number from 1 to 40; None is let."""
+    if not is_rooms(rooms):
         raise NoRooms("rooms are a whole number from 1 to 40")
 
 
